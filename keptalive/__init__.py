@@ -1,0 +1,1 @@
+"""What keeps it alive: a heap examined, whole."""
