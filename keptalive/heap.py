@@ -1,4 +1,4 @@
-"""A heap: things, the links between them, the ways to a thing and what it alone keeps."""
+"""A heap: things, the links between them, and the ways to a thing."""
 
 
 class Thing:
@@ -12,9 +12,10 @@ class Thing:
 
 
 class Heap:
-    """The things that were made, and what the variables hold (None: nothing)."""
+    """How many classes the program has, the things that were made, and what the variables hold (None: nothing)."""
 
-    def __init__(self, things, variables):
+    def __init__(self, kind_count, things, variables):
+        self.kind_count = kind_count
         self.things = things
         self.variables = variables
 
@@ -22,7 +23,7 @@ class Heap:
 def snapshot_of(heap):
     """The heap as it is now, apart from what becomes of it."""
     things = [Thing(thing.kind, thing.row, thing.size, thing.fields.copy()) for thing in heap.things]
-    return Heap(things, heap.variables.copy())
+    return Heap(heap.kind_count, things, heap.variables.copy())
 
 
 def links_from(begins, holders):
@@ -30,44 +31,34 @@ def links_from(begins, holders):
     return [(begins, which, held) for which, held in enumerate(holders) if held is not None]
 
 
-def shortest_ways(heap, avoided):
-    """The shortest way to each thing that has one that doesn't go by the avoided thing (None: by none)."""
+def all_links(heap):
+    """All links, in order."""
+    links = links_from(0, heap.variables)
+    for number, thing in enumerate(heap.things):
+        links.extend(links_from(number + 1, thing.fields))
+    return links
+
+
+def shortest_ways(heap, cut):
+    """The shortest way to each thing that's come to without the links that are cut."""
     ways = {}
     # Ways stand here by their length, and as long ones in the order of their links: the first to a thing is the one.
-    waiting = [[link] for link in links_from(0, heap.variables)]
+    waiting = [[link] for link in links_from(0, heap.variables) if link not in cut]
     place = 0
     while place < len(waiting):
         way = waiting[place]
         place += 1
         thing = way[-1][2]
-        if thing != avoided and thing not in ways:
+        if thing not in ways:
             ways[thing] = way
-            waiting.extend([way + [link] for link in links_from(thing + 1, heap.things[thing].fields)])
+            links = links_from(thing + 1, heap.things[thing].fields)
+            waiting.extend([way + [link] for link in links if link not in cut])
     return ways
 
 
 def come_to(heap):
     """The things that are come to, rising."""
-    return sorted(shortest_ways(heap, None))
-
-
-def kept_by(heap, keeper):
-    """What a thing that's come to alone keeps, rising."""
-    others = shortest_ways(heap, keeper)
-    return [thing for thing in come_to(heap) if thing not in others]
-
-
-def keeper_of(heap, thing):
-    """The keeper of a thing that's come to, or None."""
-    keepers = {}
-    for other in come_to(heap):
-        kept = kept_by(heap, other)
-        if other != thing and thing in kept:
-            keepers[other] = kept
-    for keeper in keepers:
-        if all([keeper in together for together in keepers.values()]):
-            return keeper
-    return None
+    return sorted(shortest_ways(heap, []))
 
 
 def bytes_of(heap, numbers):

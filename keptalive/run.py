@@ -15,7 +15,7 @@ class Run:
 
     def __init__(self, program):
         self.program = program
-        self.heap = Heap([], [None] * len(program.variables))
+        self.heap = Heap(len(program.kinds), [], [None] * len(program.variables))
         self.snapshots = []
         self.steps = 0
         # The row that's come to; at the end of the run the one at which it stopped, or the one behind the last.

@@ -28,6 +28,30 @@ def most(s, n):
     return [5, s, n]
 
 
+def cut(s, begins, which):
+    return [6, s, begins, which]
+
+
+def fewest(s, o):
+    return [7, s, o]
+
+
+def never(s):
+    return [8, s]
+
+
+def new(s, t):
+    return [9, s, t]
+
+
+def grows(s, t):
+    return [10, s, t]
+
+
+def classes(s):
+    return [11, s]
+
+
 def taken_apart(answered):
     """The list that answers gives back, as one list a call."""
     apart = []

@@ -2,7 +2,7 @@
 
 import unittest
 
-from tests.calling import ask, keeps, looked, most, snap, things, way, write
+from tests.calling import ask, classes, cut, fewest, grows, keeps, looked, most, never, new, snap, things, way, write
 
 # x holds 0; 0 leads to 1 and 2, both lead to 3, and 3 leads to 4.
 DIAMOND = [
@@ -212,20 +212,31 @@ class Refusals(unittest.TestCase):
             self.assertEqual(looked(RING, way(1, o), keeps(1, o)), [[-6]] * 2)
 
     def test_refusals_change_nothing(self):
-        asked = [snap(0), things(0), way(0, 1), keeps(0, 1), most(0, 9)]
-        refused = [way(0, 0), keeps(0, 9), snap(9), things(9), most(9, 9)]
+        asked = [snap(0), things(0), way(0, 1), keeps(0, 1), most(0, 9), cut(0, 0, 0), never(1), new(0, 1), classes(0)]
+        refused = [way(0, 0), keeps(0, 9), snap(9), things(9), most(9, 9), cut(0, 1, 0), fewest(0, 0), fewest(0, 9),
+                   never(2), new(1, 0), new(0, 2), grows(0, 1), grows(0, 2), classes(2)]
         answers = looked(RING, *asked, *refused, *asked)
-        self.assertEqual(answers[:5], answers[10:])
+        self.assertEqual([answer for answer in answers if answer[0] < 0], answers[9:23])
+        self.assertEqual(answers[:9], answers[23:])
 
 
 class Written(unittest.TestCase):
     def test_refused_writes_leave_the_snapshots(self):
-        asked = [snap(0), things(0), way(0, 1), keeps(0, 2), most(0, 9), snap(1), snap(2)]
+        asked = [snap(0), things(0), way(0, 1), keeps(0, 2), most(0, 9), snap(1), snap(2), cut(0, 0, 0), fewest(0, 3),
+                 never(1), new(0, 1), grows(0, 1), classes(0), classes(1), classes(2)]
         good = ask(write("\n".join(RING)), *asked)
         for text in ["what", "class a 5\nnew x a\nsnap\nwhat", "snap\ntimes 1", "snap" + " " * 597, [115, 256]]:
             answers = ask(write("\n".join(RING)), write(text), *asked)
             self.assertLess(answers[1][0], 0)
             self.assertEqual(answers[2:], good[1:])
+
+    def test_a_refused_write_leaves_the_classes_and_the_rows(self):
+        rows = ["class n 3 f", "let h nil", "times 3", "new x n", "set x f h", "let h x", "snap", "end"]
+        asked = [classes(2), grows(0, 2), new(0, 2), never(2), cut(2, 3, 0), fewest(2, 0)]
+        good = [[1, 3, 9], [1, 3, 3], [2, 1, 2, 0], [0, 0], [6, 2, 0, 1], [1, 2, 0, 0]]
+        self.assertEqual(looked(rows, *asked), good)
+        for text in ["class a 1\nclass b 2\nsnap\nsnap\nsnap\nend", "class a 1\ntimes 1", [0] * 601, [256]]:
+            self.assertEqual(looked(rows, write(text), *asked)[1:], good)
 
 
 if __name__ == "__main__":

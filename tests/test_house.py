@@ -3,9 +3,24 @@
 import unittest
 
 from keptalive.house import answers
-from tests.calling import ask, keeps, most, snap, things, way, write
+from tests.calling import ask, classes, cut, fewest, grows, keeps, most, never, new, snap, things, way, write
 
 TEXT = "class a 5 f\nnew x a\nset x f x\nsnap"
+
+# A list grows by a thing of row 3 ahead of each of three snapshots; at the end a ring is let go.
+LIST = "class a 5 f\nlet h nil\ntimes 3\nnew x a\nset x f h\nlet h x\nsnap\nend\nlet h nil\nset x f x\nlet x nil\nsnap"
+
+# Each of the twelve calls, once taken and once refused.
+TWELVE = [
+    write(LIST), snap(1), things(0), way(2, 0), keeps(2, 1), most(2, 2), cut(2, 2, 0), fewest(2, 0), never(3),
+    new(1, 3), grows(0, 2), classes(2),
+    write("what"), snap(4), things(4), way(2, 3), keeps(3, 0), most(4, 0), cut(2, 1, 0), fewest(3, 0), never(4),
+    new(1, 0), grows(0, 1), classes(4),
+]
+
+
+def strung(calls):
+    return [number for call in calls for number in call]
 
 
 class Unchanging(list):
@@ -32,6 +47,23 @@ class Interface(unittest.TestCase):
             1, -1001,
         ])
 
+    def test_each_of_the_twelve(self):
+        self.assertEqual(ask(*TWELVE), [
+            [3, 21, 4, 0], [2, 2, 10, 2, 2], [1, 0, 3, 1, 1, 0], [3, 0, 0, 2, 3, 0, 1, 2, 0, 0], [3, 10, 2, 0, 1],
+            [2, 2, 15, 1, 10], [5, 1, 0], [1, 2, 0, 0], [5, 1, 2], [0, 2, 0, 1], [1, 3, 3], [1, 3, 15],
+            [-1001], [-2], [-2], [-3], [-6], [-2], [-6], [-6], [-2], [-1], [-1], [-2],
+        ])
+
+    def test_in_any_order(self):
+        behind = ask(*TWELVE)[1:]
+        self.assertEqual(ask(TWELVE[0], *TWELVE[:0:-1])[1:], behind[::-1])
+        for place in range(1, len(TWELVE)):
+            self.assertEqual(ask(TWELVE[0], TWELVE[place])[1:], [behind[place - 1]])
+
+    def test_ahead_of_a_program(self):
+        calls = [call for call in TWELVE if call[0] != 0]
+        self.assertEqual(ask(*calls), [[-2]] * len(calls))
+
     def test_one_call(self):
         self.assertEqual(answers([0, 0]), [4, 0, 0, 0, 0])
         self.assertEqual(answers([1, 0]), [1, -2])
@@ -49,7 +81,7 @@ class Interface(unittest.TestCase):
         self.assertEqual(ask(write([1, 0, 2, 0]), snap(0)), [[-1001], [-2]])
 
     def test_twice_the_same(self):
-        calls = write(TEXT) + snap(0) + things(0) + way(0, 0) + keeps(0, 0) + most(0, 1)
+        calls = strung(TWELVE)
         kept = list(calls)
         first = answers(calls)
         first_kept = list(first)
@@ -62,9 +94,10 @@ class Interface(unittest.TestCase):
     def test_nothing_is_kept_from_one_time_to_the_next(self):
         self.assertEqual(ask(write(TEXT), snap(0)), [[1, 3, 1, 0], [1, 1, 5, 1]])
         self.assertEqual(ask(snap(0)), [[-2]])
+        self.assertEqual(ask(classes(0), never(0), write("snap"), classes(0)), [[-2], [-2], [0, 1, 1, 0], [0]])
 
     def test_what_is_handed_in_is_never_changed(self):
-        calls = write(TEXT) + snap(0) + things(0) + way(0, 0) + keeps(0, 0) + most(0, 1) + snap(7) + write([256])
+        calls = strung(TWELVE) + snap(7) + write([256])
         self.assertEqual(answers(Unchanging(calls)), answers(calls))
 
 
@@ -85,6 +118,15 @@ class SeveralPrograms(unittest.TestCase):
         self.assertEqual(ask(write(TEXT), write("let x nil\nsnap\nset x f x\nsnap"), snap(0), snap(1)), [
             [1, 3, 1, 0], [0, 3, 1, 3], [0, 0, 0, 0], [-2],
         ])
+
+    def test_the_classes_and_rows_of_the_later_one(self):
+        asked = [classes(0), never(0), cut(0, 0, 0), fewest(0, 0), new(0, 2), grows(0, 2)]
+        later = "class c 1\nclass b 9 g\nlet i nil\nsnap\n\ntimes 2\nnew y b\nset y g i\nlet i y\nsnap\nend"
+        first, second = ask(write(LIST), *asked)[1:], ask(write(later), *asked)[1:]
+        self.assertEqual(first, [[1, 1, 5], [0, 0], [0, 0], [2, 0, 0, 0, 0, 1, 0], [2, 1, 2, 0], [1, 3, 3]])
+        self.assertEqual(second, [[2, 0, 0, 0, 0], [0, 0], [-6], [-3], [2, 0, 1, 0], [1, 6, 2]])
+        self.assertEqual(ask(write(LIST), write(later), *asked)[2:], second)
+        self.assertEqual(ask(write(later), *asked[:3], write(LIST), *asked)[5:], first)
 
     def test_names_of_an_earlier_program_are_gone(self):
         self.assertEqual(ask(write(TEXT), write("let y x"), write("new x a")), [[1, 3, 1, 0], [-1003], [-1003]])

@@ -1,10 +1,13 @@
 """Many programs, made by a fixed rule: what is answered is held against the document's words, told again plainly."""
 
+import itertools
 import unittest
 
-from tests.calling import ask, keeps, most, snap, things, way, write
+from tests.calling import ask, classes, cut, fewest, grows, keeps, most, never, new, snap, things, way, write
 
 PROGRAMS = 400
+FULL_HEAPS = 12
+GROWING_PROGRAMS = 60
 
 
 class Numbers:
@@ -56,6 +59,34 @@ def made_program(seed):
             rows += made_row(numbers, "xyzv")
     # What only one variable comes to has keepers; so the others let go.
     return rows + ["end"] * depth + ["snap", "let y nil", "let z nil", "snap", "let v nil", "snap"]
+
+
+def made_full_program(seed):
+    """The rows of a program with sixteen things, each with two links, and six variables that hold things."""
+    numbers = Numbers(seed)
+    rows = ["class a 3 f g", "new h a", "set h f h", "set h g h"] + [f"let {name} h" for name in "pqrsx"]
+    # A list by way of f, so that all are come to; what g and the variables hold is by chance.
+    rows += ["times 3", f"let {numbers.one_of('pqrs')} h", "times 5", "new x a", "set x f h"]
+    rows += [f"set x g {numbers.one_of('pqrs')}", f"let {numbers.one_of('pqrs')} h", "let h x"]
+    for turn in range(1 + numbers.below(2)):
+        rows.append(f"get {numbers.one_of('pqrs')} {numbers.one_of('pqrs')} {numbers.one_of('fg')}")
+    rows += ["end", "end"]
+    for turn in range(numbers.below(14)):
+        target, source, field = numbers.one_of("pqrsx"), numbers.one_of("hpqrsx"), numbers.one_of("fg")
+        rows.append(numbers.one_of([f"get {target} {source} {field}", f"set {target} {field} {source}"]))
+    return rows + ["snap"]
+
+
+def made_growing_program(seed):
+    """The rows of a program in which two lists grow, or are let go, between snapshots."""
+    numbers = Numbers(seed)
+    longer = {name: [f"new x {name}", f"set x f {name}", f"let {name} x"] for name in "ab"}
+    choices = [longer["a"], longer["b"], ["let a nil"], ["get b b f"], ["snap"], ["let x nil"]]
+    rows = ["class a 3 f", "class b 5 f", "let a nil", "new b b"]
+    for times in [f"times {2 + numbers.below(2)}", f"times {2 + numbers.below(3)}"]:
+        rows += numbers.one_of(choices + choices[:2]) + [times]
+        rows += numbers.one_of(choices[:2]) + numbers.one_of(choices[:2]) + numbers.one_of([[], [], ["let a nil"]])
+    return rows + ["snap", "end"] + numbers.one_of([[]] + choices) + ["end", "snap"]
 
 
 class Stop(Exception):
@@ -143,8 +174,31 @@ class PlainSnapshot:
         self.fields = [[and_one(held) for held in thing["fields"].values()] for thing in run.made]
         self.told = [[names.index(thing["class"]), thing["row"]] for thing in run.made]
         self.sizes = [int(run.classes[thing["class"]][2]) for thing in run.made]
-        self.ways = self.all_ways()
-        self.come_to = sorted({links[-1][2] for links in self.ways})
+        self.class_sizes = [int(words[2]) for words in run.classes.values()]
+        self.links = [(0, which, held - 1) for which, held in enumerate(self.variables) if held]
+        for number, fields in enumerate(self.fields):
+            self.links += [(number + 1, which, held - 1) for which, held in enumerate(fields) if held]
+        self.come_to = self.reached(self.links)
+        self.known_ways = None
+
+    @property
+    def ways(self):
+        # Only made where they are asked for: a full heap has very many.
+        if self.known_ways is None:
+            self.known_ways = self.all_ways()
+            assert self.come_to == sorted({links[-1][2] for links in self.known_ways})
+        return self.known_ways
+
+    def reached(self, links, begins=(0,)):
+        """What is come to by these links from some beginnings (0: the variables), rising."""
+        places = set(begins)
+        found = set()
+        while True:
+            more = {held for begin, which, held in links if begin in places} - found
+            if not more:
+                return sorted(found)
+            found |= more
+            places |= {held + 1 for held in more}
 
     def all_ways(self):
         """Every way that comes to no thing twice."""
@@ -197,7 +251,84 @@ class PlainSnapshot:
         return [len(pairs)] + [number for size, o in pairs for number in (o, -size)]
 
 
+    def cut(self, begins, which):
+        for link in self.links:
+            if link[:2] == (begins, which) and (begins == 0 or begins - 1 in self.come_to):
+                gone = [o for o in self.come_to if all(link in links for links in self.ways if links[-1][2] == o)]
+                return [self.size(gone), len(gone)] + gone
+        return [-6]
+
+    def fewest(self):
+        """What fewest answers of each thing: every row of one to three links is tried, in order."""
+        answers = {o: [-7] if o in self.come_to else [-6] for o in range(len(self.fields))}
+        for count in (1, 2, 3):
+            for row in itertools.combinations(self.links, count):
+                left = self.reached([link for link in self.links if link not in row])
+                for o in self.come_to:
+                    if o not in left and answers[o] == [-7]:
+                        answers[o] = [count] + [number for link in row for number in link]
+        return [answers[o] for o in range(len(self.fields))]
+
+    def never(self):
+        """What lies on a ring that isn't come to, or is led to from there, and isn't come to."""
+        rings = [o for o in range(len(self.fields)) if o in self.reached(self.links, [o + 1])]
+        held = self.reached(self.links, [o + 1 for o in rings if o not in self.come_to])
+        left = [o for o in held if o not in self.come_to]
+        return [self.size(left), len(left)] + left
+
+    def classes(self):
+        of_each = [[o for o in self.come_to if self.told[o][0] == kind] for kind in range(len(self.class_sizes))]
+        answer = [len(self.class_sizes)]
+        for size, numbers in zip(self.class_sizes, of_each):
+            answer += [len(numbers), size * len(numbers)]
+        return answer
+
+    def come_to_of_row(self, row):
+        return sum(self.told[o][1] == row for o in self.come_to)
+
+
+def plain_new(snapshots, s, t):
+    ahead, behind = set(snapshots[s].come_to), set(snapshots[t].come_to)
+    if t < s:
+        return [-1]
+    return [len(behind - ahead), *sorted(behind - ahead), len(ahead - behind), *sorted(ahead - behind)]
+
+
+def plain_grows(snapshots, s, t):
+    if t - s < 2:
+        return [-1]
+    answer = [0]
+    for row in range(600):
+        counts = [snapshot.come_to_of_row(row) for snapshot in snapshots[s:t + 1]]
+        if all(counts[place] > counts[place - 1] for place in range(1, len(counts))):
+            answer[0] += 1
+            answer += [row, counts[-1]]
+    return answer
+
+
 class Whole(unittest.TestCase):
+    def hold_calls(self, text, calls, expected):
+        """Holds what calls answer against what's expected, in lists of 40 calls with 2 of fewest at the most."""
+        most_calls = 2 if calls and calls[0][0] == 7 else 39
+        for place in range(0, len(calls), most_calls):
+            behind = place + most_calls
+            self.assertEqual(ask(write(text), *calls[place:behind])[1:], expected[place:behind], text)
+
+    def hold_pairs(self, text, snapshots):
+        pairs = [(s, t) for s in range(len(snapshots)) for t in range(len(snapshots))]
+        self.hold_calls(text, [new(s, t) for s, t in pairs], [plain_new(snapshots, s, t) for s, t in pairs])
+        self.hold_calls(text, [grows(s, t) for s, t in pairs], [plain_grows(snapshots, s, t) for s, t in pairs])
+
+    def hold_cuts(self, text, s, plain):
+        places = [(begins, which) for begins in range(len(plain.fields) + 2) for which in range(3 if begins else 7)]
+        self.hold_calls(text, [cut(s, *place) for place in places], [plain.cut(*place) for place in places])
+        self.hold_calls(text, [never(s), classes(s)], [plain.never(), plain.classes()])
+
+    def hold_fewest(self, text, s, plain):
+        answers = plain.fewest()
+        self.hold_calls(text, [fewest(s, o) for o in range(len(plain.fields))], answers)
+        return [answer[0] for answer in answers]
+
     def hold_snapshot(self, text, s, plain):
         count = len(plain.fields)
         self.assertEqual(
@@ -210,6 +341,7 @@ class Whole(unittest.TestCase):
     def test_many_programs(self):
         stops = 0
         looked_at = 0
+        told = []
         for seed in range(PROGRAMS):
             rows = made_program(seed)
             text = "\n".join(rows)
@@ -221,10 +353,37 @@ class Whole(unittest.TestCase):
             looked_at += len(plain.snapshots)
             for s, snapshot in enumerate(plain.snapshots):
                 self.hold_snapshot(text, s, snapshot)
+                self.hold_cuts(text, s, snapshot)
+            if seed % 4 == 0:
+                self.hold_pairs(text, plain.snapshots)
+                told += self.hold_fewest(text, len(plain.snapshots) - 1, plain.snapshots[-1]) if plain.snapshots else []
         # So that a change of the rule that makes them doesn't leave nothing to look at.
         self.assertGreater(stops, 50)
         self.assertGreater(PROGRAMS - stops, 50)
         self.assertGreater(looked_at, 200)
+        for first in (-6, 1, 2, 3):
+            self.assertIn(first, told)
+
+    def test_full_heaps(self):
+        told = []
+        for seed in range(FULL_HEAPS):
+            rows = made_full_program(seed)
+            text = "\n".join(rows)
+            plain = PlainRun(rows).snapshots[0]
+            self.assertEqual((len(plain.fields), len(plain.links)), (16, 38), text)
+            told += self.hold_fewest(text, 0, plain)
+        for first in (-7, 1, 2, 3):
+            self.assertGreater(told.count(first), 2)
+
+    def test_growing_programs(self):
+        told = []
+        for seed in range(GROWING_PROGRAMS):
+            rows = made_growing_program(seed)
+            snapshots = PlainRun(rows).snapshots
+            self.hold_pairs("\n".join(rows), snapshots)
+            told += [plain_grows(snapshots, 0, t)[0] for t in range(len(snapshots))]
+        for first in (-1, 0, 1, 2):
+            self.assertGreater(told.count(first), 2)
 
 
 if __name__ == "__main__":
